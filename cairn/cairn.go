@@ -1,0 +1,122 @@
+// Package cairn: an index whose answers prove themselves: see DOC.md.
+package cairn
+
+import (
+	"bytes"
+	"slices"
+
+	"cairn/api"
+	"cairn/digest"
+	"cairn/history"
+	"cairn/page"
+	"cairn/tree"
+)
+
+// Store keeps keys and values. Its lists are never written into, but replaced
+// by new ones, so that what is done to a store does not show in a copy of it.
+type Store struct {
+	entries []page.Entry // by rising keys
+	known   tree.Known
+	trees   []*tree.Node // the commits' root pages, in order
+}
+
+// Digest gives the digest of some bytes (P3).
+func Digest(b []byte) api.Digest { return digest.Of(b) }
+
+// New makes an empty store.
+func New() *Store { return &Store{} }
+
+// Put puts a value at a key (P4). A nil store has room for nothing.
+func (s *Store) Put(key []byte, value []byte) api.Errno {
+	if !page.IsKey(key) || !page.IsValue(value) {
+		return api.ErrArg
+	}
+	if s == nil {
+		return api.ErrFull
+	}
+	i, found := s.find(key)
+	if !found && len(s.entries) >= api.MaxEntries {
+		return api.ErrFull
+	}
+	behind := s.entries[i:]
+	if found {
+		behind = behind[1:]
+	}
+	e := page.Entry{Key: bytes.Clone(key), Value: bytes.Clone(value)}
+	s.entries = slices.Concat(s.entries[:i], []page.Entry{e}, behind)
+	return api.OK
+}
+
+// Delete takes a key away (P4). A nil store has no key.
+func (s *Store) Delete(key []byte) api.Errno {
+	if !page.IsKey(key) {
+		return api.ErrArg
+	}
+	if s == nil {
+		return api.ErrNone
+	}
+	i, found := s.find(key)
+	if !found {
+		return api.ErrNone
+	}
+	s.entries = slices.Concat(s.entries[:i], s.entries[i+1:])
+	return api.OK
+}
+
+// Commit commits what is there (P4). A nil store has room for no commit.
+func (s *Store) Commit() (api.Commit, api.Errno) {
+	if s == nil || len(s.trees) >= api.MaxEpochs {
+		return api.Commit{}, api.ErrFull
+	}
+	epoch := len(s.trees)
+	root := s.known.Tree(s.entries)
+	s.trees = slices.Concat(s.trees, []*tree.Node{root})
+	return api.Commit{Epoch: epoch, Root: root.Digest, Head: s.head()}, api.OK
+}
+
+// find gives the place of a key among the entries, or the one where it would
+// stand, and whether it is there.
+func (s *Store) find(key []byte) (int, bool) {
+	return slices.BinarySearchFunc(s.entries, key, func(e page.Entry, key []byte) int {
+		return bytes.Compare(e.Key, key)
+	})
+}
+
+// head gives the log's head.
+func (s *Store) head() api.Head {
+	var roots []api.Digest
+	for _, t := range s.trees {
+		roots = append(roots, t.Digest)
+	}
+	return api.Head{Size: len(roots), Sum: history.Sum(roots)}
+}
+
+// Prove proves what stood at a key (P5).
+func (s *Store) Prove(epoch int, key []byte) ([]byte, api.Errno) { return nil, api.OK }
+
+// ProveRange proves what stood between two keys (P5).
+func (s *Store) ProveRange(epoch int, from []byte, to []byte) ([]byte, api.Errno) {
+	return nil, api.OK
+}
+
+// Included proves that a root is in the log (P7).
+func (s *Store) Included(epoch int, size int) ([]api.Digest, api.Errno) { return nil, api.OK }
+
+// Extended proves that one log is the beginning of another (P7).
+func (s *Store) Extended(old int, size int) ([]api.Digest, api.Errno) { return nil, api.OK }
+
+// Check checks a key's proof (P6).
+func Check(root api.Digest, key []byte, proof []byte) (api.Answer, api.Errno) {
+	return api.Answer{}, api.OK
+}
+
+// CheckRange checks a range's proof (P6).
+func CheckRange(root api.Digest, from []byte, to []byte, proof []byte) ([]api.Entry, api.Errno) {
+	return nil, api.OK
+}
+
+// CheckIncluded checks a path (P8).
+func CheckIncluded(h api.Head, epoch int, root api.Digest, path []api.Digest) bool { return false }
+
+// CheckExtended checks a path (P8).
+func CheckExtended(old api.Head, h api.Head, path []api.Digest) bool { return false }
