@@ -9,6 +9,7 @@ import (
 	"cairn/digest"
 	"cairn/history"
 	"cairn/page"
+	"cairn/proofs"
 	"cairn/tree"
 )
 
@@ -92,11 +93,35 @@ func (s *Store) head() api.Head {
 }
 
 // Prove proves what stood at a key (P5).
-func (s *Store) Prove(epoch int, key []byte) ([]byte, api.Errno) { return nil, api.OK }
+func (s *Store) Prove(epoch int, key []byte) ([]byte, api.Errno) {
+	if !s.has(epoch) {
+		return nil, api.ErrEpoch
+	}
+	if !page.IsKey(key) {
+		return nil, api.ErrArg
+	}
+	return proofs.OfKey(s.trees[epoch], key), api.OK
+}
 
 // ProveRange proves what stood between two keys (P5).
 func (s *Store) ProveRange(epoch int, from []byte, to []byte) ([]byte, api.Errno) {
-	return nil, api.OK
+	if !s.has(epoch) {
+		return nil, api.ErrEpoch
+	}
+	if !isRange(from, to) {
+		return nil, api.ErrArg
+	}
+	return proofs.OfRange(s.trees[epoch], from, to), api.OK
+}
+
+// has tells whether there is a commit of this number. A nil store has none.
+func (s *Store) has(epoch int) bool {
+	return s != nil && epoch >= 0 && epoch < len(s.trees)
+}
+
+// isRange tells whether there may be a range from one key to another.
+func isRange(from, to []byte) bool {
+	return page.IsKey(from) && page.IsKey(to) && bytes.Compare(from, to) < 0
 }
 
 // Included proves that a root is in the log (P7).

@@ -96,16 +96,16 @@ func TestOrderOfPutsIsNotSeen(t *testing.T) {
 }
 
 func TestTreesOfAllSizes(t *testing.T) {
-	levels := map[byte]int{}
+	levels := map[int]int{}
 	for n := range 61 {
 		b := newBoth(t)
 		for i := range n {
 			b.put([]byte{byte(60 + i*14%75), byte(48 + i)}, key(i))
 		}
-		levels[b.m.rootPage()[0]]++
+		levels[b.m.rootPage().level()]++
 		b.commit()
 	}
-	for _, level := range []byte{0, 1, 2, 3, 4, 6} {
+	for _, level := range []int{0, 1, 2, 3, 4, 6} {
 		if levels[level] < 2 {
 			t.Errorf("P4: the trees tried are of these levels: %v", levels)
 		}
@@ -115,7 +115,7 @@ func TestTreesOfAllSizes(t *testing.T) {
 func TestTreesOfAllLevels(t *testing.T) {
 	for _, c := range []struct {
 		key   string
-		level byte
+		level int
 	}{
 		{"a", 0}, {"h", 1}, {"af", 2}, {"y", 3}, {"afp", 4}, {"yf", 5}, {"acwi", 6},
 		{"aqbr", 6}, // on the level 6 it would be an end, if there were ends
@@ -124,7 +124,7 @@ func TestTreesOfAllLevels(t *testing.T) {
 		b.put([]byte(c.key), []byte("1"))
 		b.commit()
 		b.put([]byte("zzzzz"), []byte("2"))
-		if level := b.m.rootPage()[0]; level != c.level {
+		if level := b.m.rootPage().level(); level != c.level {
 			t.Errorf("P4: the root page of %s is of level %d, want %d", c.key, level, c.level)
 		}
 		b.commit()

@@ -13,6 +13,7 @@ import (
 // model is a store reckoned anew from the document's words at each commit.
 type model struct {
 	values map[string]string
+	trees  []*modelPage
 	roots  []api.Digest
 }
 
@@ -31,13 +32,54 @@ func modelDigest(b []byte) (d api.Digest) {
 	return d
 }
 
-// pair is an entry: a key and, as bytes of a page, what goes with it.
-type pair struct{ key, with string }
+// modelEntry is a key and, as bytes of a page, what goes with it; above the
+// level 0 also the page that it stands for.
+type modelEntry struct {
+	key, with string
+	page      *modelPage
+}
 
-func pageOf(level int, l []pair) string {
+type modelPage struct {
+	bytes   string
+	entries []modelEntry
+}
+
+func newPage(level int, l []modelEntry) *modelPage {
 	b := string([]byte{byte(level), byte(len(l))})
-	for _, p := range l {
-		b += string([]byte{byte(len(p.key))}) + p.key + p.with
+	for _, e := range l {
+		b += string([]byte{byte(len(e.key))}) + e.key + e.with
+	}
+	return &modelPage{b, l}
+}
+
+func (p *modelPage) level() int { return int(p.bytes[0]) }
+
+// counted gives the page's bytes with their number ahead.
+func (p *modelPage) counted() string {
+	n := len(p.bytes)
+	return string([]byte{byte(n / 256), byte(n % 256)}) + p.bytes
+}
+
+func (p *modelPage) proofOfKey(key string) string {
+	if p.level() > 0 {
+		for _, e := range p.entries {
+			if e.key >= key {
+				return p.counted() + e.page.proofOfKey(key)
+			}
+		}
+	}
+	return p.counted()
+}
+
+func (p *modelPage) proofOfRange(from, to string) string {
+	b := p.counted()
+	if p.level() == 0 {
+		return b
+	}
+	for i, e := range p.entries {
+		if e.key >= from && (i == 0 || p.entries[i-1].key < to) {
+			b += e.page.proofOfRange(from, to)
+		}
 	}
 	return b
 }
@@ -48,28 +90,29 @@ func ends(level int, key string) bool {
 }
 
 // rootPage gives the root page of the tree whose entries on this level are l.
-func rootPage(level int, l []pair) string {
-	var next []pair
+func rootPage(level int, l []modelEntry) *modelPage {
+	var next []modelEntry
 	from := 0
 	for i := range l {
 		if !ends(level, l[i].key) && i < len(l)-1 {
 			continue
 		}
-		d := modelDigest([]byte(pageOf(level, l[from:i+1])))
-		next = append(next, pair{l[i].key, string(d[:])})
+		p := newPage(level, l[from:i+1])
+		d := modelDigest([]byte(p.bytes))
+		next = append(next, modelEntry{l[i].key, string(d[:]), p})
 		from = i + 1
 	}
 	if len(next) <= 1 {
-		return pageOf(level, l)
+		return newPage(level, l)
 	}
 	return rootPage(level+1, next)
 }
 
-func (m *model) rootPage() string {
-	var l []pair
+func (m *model) rootPage() *modelPage {
+	var l []modelEntry
 	for _, k := range slices.Sorted(maps.Keys(m.values)) {
 		v := m.values[k]
-		l = append(l, pair{k, string([]byte{byte(len(v))}) + v})
+		l = append(l, modelEntry{key: k, with: string([]byte{byte(len(v))}) + v})
 	}
 	return rootPage(0, l)
 }
@@ -90,7 +133,7 @@ func modelSum(roots []api.Digest) api.Digest {
 }
 
 func (m *model) put(key, value []byte) api.Errno {
-	if len(key) == 0 || len(key) > 12 || len(value) > 12 {
+	if !isKey(key) || len(value) > 12 {
 		return api.ErrArg
 	}
 	if _, ok := m.values[string(key)]; !ok && len(m.values) == 60 {
@@ -101,7 +144,7 @@ func (m *model) put(key, value []byte) api.Errno {
 }
 
 func (m *model) delete(key []byte) api.Errno {
-	if len(key) == 0 || len(key) > 12 {
+	if !isKey(key) {
 		return api.ErrArg
 	}
 	if _, ok := m.values[string(key)]; !ok {
@@ -115,9 +158,33 @@ func (m *model) commit() (api.Commit, api.Errno) {
 	if len(m.roots) == 40 {
 		return api.Commit{}, api.ErrFull
 	}
-	m.roots = append(m.roots, modelDigest([]byte(m.rootPage())))
+	p := m.rootPage()
+	m.trees = append(m.trees, p)
+	m.roots = append(m.roots, modelDigest([]byte(p.bytes)))
 	n := len(m.roots)
 	return api.Commit{Epoch: n - 1, Root: m.roots[n-1], Head: api.Head{Size: n, Sum: modelSum(m.roots)}}, api.OK
+}
+
+func isKey(b []byte) bool { return len(b) >= 1 && len(b) <= 12 }
+
+func (m *model) prove(epoch int, key []byte) (string, api.Errno) {
+	if epoch < 0 || epoch >= len(m.trees) {
+		return "", api.ErrEpoch
+	}
+	if !isKey(key) {
+		return "", api.ErrArg
+	}
+	return m.trees[epoch].proofOfKey(string(key)), api.OK
+}
+
+func (m *model) proveRange(epoch int, from, to []byte) (string, api.Errno) {
+	if epoch < 0 || epoch >= len(m.trees) {
+		return "", api.ErrEpoch
+	}
+	if !isKey(from) || !isKey(to) || string(from) >= string(to) {
+		return "", api.ErrArg
+	}
+	return m.trees[epoch].proofOfRange(string(from), string(to)), api.OK
 }
 
 // both is a store beside its model: what is done to one is done to the other.
@@ -131,7 +198,7 @@ func newBoth(t *testing.T) both { return both{t, cairn.New(), newModel()} }
 
 func (b both) copy() both {
 	s := *b.s
-	return both{b.t, &s, &model{maps.Clone(b.m.values), slices.Clone(b.m.roots)}}
+	return both{b.t, &s, &model{maps.Clone(b.m.values), slices.Clone(b.m.trees), slices.Clone(b.m.roots)}}
 }
 
 func (b both) put(key, value []byte) {
@@ -154,5 +221,21 @@ func (b both) commit() {
 	want, wantE := b.m.commit()
 	if c != want || e != wantE {
 		b.t.Errorf("P4: Commit = %v, %d, want %v, %d", c, e, want, wantE)
+	}
+}
+
+func (b both) prove(epoch int, key []byte) {
+	b.t.Helper()
+	p, e := b.s.Prove(epoch, key)
+	if want, wantE := b.m.prove(epoch, key); string(p) != want || e != wantE || e != api.OK && p != nil {
+		b.t.Errorf("P5: Prove(%d, %q) = %v, %d, want %v, %d", epoch, key, p, e, []byte(want), wantE)
+	}
+}
+
+func (b both) proveRange(epoch int, from, to []byte) {
+	b.t.Helper()
+	p, e := b.s.ProveRange(epoch, from, to)
+	if want, wantE := b.m.proveRange(epoch, from, to); string(p) != want || e != wantE || e != api.OK && p != nil {
+		b.t.Errorf("P5: ProveRange(%d, %q, %q) = %v, %d, want %v, %d", epoch, from, to, p, e, []byte(want), wantE)
 	}
 }
