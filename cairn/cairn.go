@@ -35,7 +35,7 @@ func (s *Store) Put(key []byte, value []byte) api.Errno {
 	if s == nil {
 		return api.ErrFull
 	}
-	i, found := s.find(key)
+	i, found := find(s.entries, key)
 	if !found && len(s.entries) >= api.MaxEntries {
 		return api.ErrFull
 	}
@@ -56,7 +56,7 @@ func (s *Store) Delete(key []byte) api.Errno {
 	if s == nil {
 		return api.ErrNone
 	}
-	i, found := s.find(key)
+	i, found := find(s.entries, key)
 	if !found {
 		return api.ErrNone
 	}
@@ -75,10 +75,10 @@ func (s *Store) Commit() (api.Commit, api.Errno) {
 	return api.Commit{Epoch: epoch, Root: root.Digest, Head: s.head()}, api.OK
 }
 
-// find gives the place of a key among the entries, or the one where it would
-// stand, and whether it is there.
-func (s *Store) find(key []byte) (int, bool) {
-	return slices.BinarySearchFunc(s.entries, key, func(e page.Entry, key []byte) int {
+// find gives the place of a key among entries with rising keys, or the one where
+// it would stand, and whether it is there.
+func find(entries []page.Entry, key []byte) (int, bool) {
+	return slices.BinarySearchFunc(entries, key, func(e page.Entry, key []byte) int {
 		return bytes.Compare(e.Key, key)
 	})
 }
@@ -132,12 +132,38 @@ func (s *Store) Extended(old int, size int) ([]api.Digest, api.Errno) { return n
 
 // Check checks a key's proof (P6).
 func Check(root api.Digest, key []byte, proof []byte) (api.Answer, api.Errno) {
-	return api.Answer{}, api.OK
+	if !page.IsKey(key) {
+		return api.Answer{}, api.ErrArg
+	}
+	entries, ok := proofs.ReadKey(root, key, proof)
+	if !ok {
+		return api.Answer{}, api.ErrProof
+	}
+	// They are those of one page at most, so that their keys rise.
+	i, found := find(entries, key)
+	if !found {
+		return api.Answer{}, api.OK
+	}
+	return api.Answer{Found: true, Value: bytes.Clone(entries[i].Value)}, api.OK
 }
 
 // CheckRange checks a range's proof (P6).
 func CheckRange(root api.Digest, from []byte, to []byte, proof []byte) ([]api.Entry, api.Errno) {
-	return nil, api.OK
+	if !isRange(from, to) {
+		return nil, api.ErrArg
+	}
+	entries, ok := proofs.ReadRange(root, from, to, proof)
+	if !ok {
+		return nil, api.ErrProof
+	}
+	// From one page to the next the keys need not rise: P6 does not ask it.
+	var some []api.Entry
+	for _, e := range entries {
+		if bytes.Compare(e.Key, from) >= 0 && bytes.Compare(e.Key, to) < 0 {
+			some = append(some, api.Entry{Key: bytes.Clone(e.Key), Value: bytes.Clone(e.Value)})
+		}
+	}
+	return some, api.OK
 }
 
 // CheckIncluded checks a path (P8).

@@ -1,6 +1,7 @@
 package cairn_test
 
 import (
+	"bytes"
 	"hash/fnv"
 	"maps"
 	"slices"
@@ -13,6 +14,7 @@ import (
 // model is a store reckoned anew from the document's words at each commit.
 type model struct {
 	values map[string]string
+	then   []map[string]string // the values at each commit
 	trees  []*modelPage
 	roots  []api.Digest
 }
@@ -52,6 +54,12 @@ func newPage(level int, l []modelEntry) *modelPage {
 	return &modelPage{b, l}
 }
 
+// standsFor gives the entry that stands for a page.
+func standsFor(key string, p *modelPage) modelEntry {
+	d := modelDigest([]byte(p.bytes))
+	return modelEntry{key, string(d[:]), p}
+}
+
 func (p *modelPage) level() int { return int(p.bytes[0]) }
 
 // counted gives the page's bytes with their number ahead.
@@ -60,26 +68,37 @@ func (p *modelPage) counted() string {
 	return string([]byte{byte(n / 256), byte(n % 256)}) + p.bytes
 }
 
-func (p *modelPage) proofOfKey(key string) string {
+// pagesOfKey gives the pages of a key's proof.
+func (p *modelPage) pagesOfKey(key string) []*modelPage {
 	if p.level() > 0 {
 		for _, e := range p.entries {
 			if e.key >= key {
-				return p.counted() + e.page.proofOfKey(key)
+				return append([]*modelPage{p}, e.page.pagesOfKey(key)...)
 			}
 		}
 	}
-	return p.counted()
+	return []*modelPage{p}
 }
 
-func (p *modelPage) proofOfRange(from, to string) string {
-	b := p.counted()
+// pagesOfRange gives the pages of a range's proof.
+func (p *modelPage) pagesOfRange(from, to string) []*modelPage {
+	l := []*modelPage{p}
 	if p.level() == 0 {
-		return b
+		return l
 	}
 	for i, e := range p.entries {
 		if e.key >= from && (i == 0 || p.entries[i-1].key < to) {
-			b += e.page.proofOfRange(from, to)
+			l = append(l, e.page.pagesOfRange(from, to)...)
 		}
+	}
+	return l
+}
+
+// proofOf gives pages as a proof.
+func proofOf(l []*modelPage) string {
+	b := ""
+	for _, p := range l {
+		b += p.counted()
 	}
 	return b
 }
@@ -97,9 +116,7 @@ func rootPage(level int, l []modelEntry) *modelPage {
 		if !ends(level, l[i].key) && i < len(l)-1 {
 			continue
 		}
-		p := newPage(level, l[from:i+1])
-		d := modelDigest([]byte(p.bytes))
-		next = append(next, modelEntry{l[i].key, string(d[:]), p})
+		next = append(next, standsFor(l[i].key, newPage(level, l[from:i+1])))
 		from = i + 1
 	}
 	if len(next) <= 1 {
@@ -159,6 +176,7 @@ func (m *model) commit() (api.Commit, api.Errno) {
 		return api.Commit{}, api.ErrFull
 	}
 	p := m.rootPage()
+	m.then = append(m.then, maps.Clone(m.values))
 	m.trees = append(m.trees, p)
 	m.roots = append(m.roots, modelDigest([]byte(p.bytes)))
 	n := len(m.roots)
@@ -174,7 +192,7 @@ func (m *model) prove(epoch int, key []byte) (string, api.Errno) {
 	if !isKey(key) {
 		return "", api.ErrArg
 	}
-	return m.trees[epoch].proofOfKey(string(key)), api.OK
+	return proofOf(m.trees[epoch].pagesOfKey(string(key))), api.OK
 }
 
 func (m *model) proveRange(epoch int, from, to []byte) (string, api.Errno) {
@@ -184,7 +202,7 @@ func (m *model) proveRange(epoch int, from, to []byte) (string, api.Errno) {
 	if !isKey(from) || !isKey(to) || string(from) >= string(to) {
 		return "", api.ErrArg
 	}
-	return m.trees[epoch].proofOfRange(string(from), string(to)), api.OK
+	return proofOf(m.trees[epoch].pagesOfRange(string(from), string(to))), api.OK
 }
 
 // both is a store beside its model: what is done to one is done to the other.
@@ -198,7 +216,7 @@ func newBoth(t *testing.T) both { return both{t, cairn.New(), newModel()} }
 
 func (b both) copy() both {
 	s := *b.s
-	return both{b.t, &s, &model{maps.Clone(b.m.values), slices.Clone(b.m.trees), slices.Clone(b.m.roots)}}
+	return both{b.t, &s, &model{maps.Clone(b.m.values), slices.Clone(b.m.then), slices.Clone(b.m.trees), slices.Clone(b.m.roots)}}
 }
 
 func (b both) put(key, value []byte) {
@@ -230,6 +248,19 @@ func (b both) prove(epoch int, key []byte) {
 	if want, wantE := b.m.prove(epoch, key); string(p) != want || e != wantE || e != api.OK && p != nil {
 		b.t.Errorf("P5: Prove(%d, %q) = %v, %d, want %v, %d", epoch, key, p, e, []byte(want), wantE)
 	}
+	if e == api.OK {
+		b.check(epoch, key, p)
+	}
+}
+
+// check holds what a store's own proof tells against what stood there.
+func (b both) check(epoch int, key, proof []byte) {
+	b.t.Helper()
+	a, e := cairn.Check(b.m.roots[epoch], key, proof)
+	want, found := b.m.then[epoch][string(key)]
+	if e != api.OK || a.Found != found || string(a.Value) != want {
+		b.t.Errorf("P9: Check of %q in commit %d = %v, %d, want %v, %q", key, epoch, a, e, found, want)
+	}
 }
 
 func (b both) proveRange(epoch int, from, to []byte) {
@@ -238,4 +269,30 @@ func (b both) proveRange(epoch int, from, to []byte) {
 	if want, wantE := b.m.proveRange(epoch, from, to); string(p) != want || e != wantE || e != api.OK && p != nil {
 		b.t.Errorf("P5: ProveRange(%d, %q, %q) = %v, %d, want %v, %d", epoch, from, to, p, e, []byte(want), wantE)
 	}
+	if e == api.OK {
+		b.checkRange(epoch, from, to, p)
+	}
+}
+
+// checkRange is check, of a range.
+func (b both) checkRange(epoch int, from, to, proof []byte) {
+	b.t.Helper()
+	l, e := cairn.CheckRange(b.m.roots[epoch], from, to, proof)
+	var want []api.Entry
+	for _, k := range slices.Sorted(maps.Keys(b.m.then[epoch])) {
+		if k >= string(from) && k < string(to) {
+			want = append(want, entry(k, b.m.then[epoch][k]))
+		}
+	}
+	if e != api.OK || !sameEntries(l, want) {
+		b.t.Errorf("P9: CheckRange of %q %q in commit %d = %q, %d, want %q", from, to, epoch, l, e, want)
+	}
+}
+
+func entry(key, value string) api.Entry { return api.Entry{Key: []byte(key), Value: []byte(value)} }
+
+func sameEntries(l, want []api.Entry) bool {
+	return slices.EqualFunc(l, want, func(a, b api.Entry) bool {
+		return bytes.Equal(a.Key, b.Key) && bytes.Equal(a.Value, b.Value)
+	})
 }

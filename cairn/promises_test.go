@@ -130,6 +130,14 @@ func TestNilIsEmpty(t *testing.T) {
 	if cairn.Digest(nil) != cairn.Digest([]byte{}) {
 		t.Error("P1: nil and empty have two digests")
 	}
+	for _, none := range [][]byte{nil, {}} {
+		_, e := cairn.Check(cairn.Digest(none), []byte("k"), none)
+		_, f := cairn.CheckRange(cairn.Digest(none), []byte("k"), []byte("l"), none)
+		_, g := cairn.CheckRange(cairn.Digest(none), []byte("k"), none, none)
+		if e != api.ErrProof || f != api.ErrProof || g != api.ErrArg {
+			t.Errorf("P1: checks with %#v = %d, %d and %d", none, e, f, g)
+		}
+	}
 }
 
 // TestDigestHangsOnBytesAlone: P1, whatever stores do in between.

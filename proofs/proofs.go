@@ -1,4 +1,4 @@
-// Package proofs: proofs of keys and of ranges.
+// Package proofs: proofs of keys and of ranges, made and read.
 package proofs
 
 import (
@@ -23,22 +23,25 @@ func OfRange(root *tree.Node, from, to []byte) []byte {
 func appendPages(proof []byte, n *tree.Node, from, to []byte) []byte {
 	proof = append(proof, byte(len(n.Bytes)>>8), byte(len(n.Bytes)))
 	proof = append(proof, n.Bytes...)
-	for _, below := range within(n.Below, from, to) {
+	for _, below := range within(n.Below, nodeKey, from, to) {
 		proof = appendPages(proof, below, from, to)
 	}
 	return proof
 }
 
-// within gives those of the pages below a page that belong to the proof of a
-// range. A page's keys are all behind the last one of the page ahead: that one
-// tells whether there can be a key less than to, not the page's own last key.
-func within(pages []*tree.Node, from, to []byte) []*tree.Node {
-	var some []*tree.Node
-	for i, n := range pages {
-		reached := i == 0 || bytes.Compare(pages[i-1].Last, to) < 0
-		if reached && bytes.Compare(n.Last, from) >= 0 {
-			some = append(some, n)
+// within gives those of a page's entries, or of the pages that they stand for,
+// that belong to the proof of a range. A page's keys are all behind the key of
+// the entry ahead: that one tells whether there can be a key less than to, not
+// the entry's own key.
+func within[T any](list []T, key func(T) []byte, from, to []byte) []T {
+	var some []T
+	for i, t := range list {
+		reached := i == 0 || bytes.Compare(key(list[i-1]), to) < 0
+		if reached && bytes.Compare(key(t), from) >= 0 {
+			some = append(some, t)
 		}
 	}
 	return some
 }
+
+func nodeKey(n *tree.Node) []byte { return n.Last }
