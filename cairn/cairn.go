@@ -85,11 +85,25 @@ func find(entries []page.Entry, key []byte) (int, bool) {
 
 // head gives the log's head.
 func (s *Store) head() api.Head {
-	var roots []api.Digest
-	for _, t := range s.trees {
-		roots = append(roots, t.Digest)
+	n := s.commits()
+	return api.Head{Size: n, Sum: history.Sum(s.roots(n))}
+}
+
+// commits tells how many commits there were. A nil store has none.
+func (s *Store) commits() int {
+	if s == nil {
+		return 0
 	}
-	return api.Head{Size: len(roots), Sum: history.Sum(roots)}
+	return len(s.trees)
+}
+
+// roots gives the log's first n roots.
+func (s *Store) roots(n int) []api.Digest {
+	var roots []api.Digest
+	for i := range n {
+		roots = append(roots, s.trees[i].Digest)
+	}
+	return roots
 }
 
 // Prove proves what stood at a key (P5).
@@ -114,9 +128,9 @@ func (s *Store) ProveRange(epoch int, from []byte, to []byte) ([]byte, api.Errno
 	return proofs.OfRange(s.trees[epoch], from, to), api.OK
 }
 
-// has tells whether there is a commit of this number. A nil store has none.
+// has tells whether there is a commit of this number.
 func (s *Store) has(epoch int) bool {
-	return s != nil && epoch >= 0 && epoch < len(s.trees)
+	return epoch >= 0 && epoch < s.commits()
 }
 
 // isRange tells whether there may be a range from one key to another.
@@ -125,10 +139,20 @@ func isRange(from, to []byte) bool {
 }
 
 // Included proves that a root is in the log (P7).
-func (s *Store) Included(epoch int, size int) ([]api.Digest, api.Errno) { return nil, api.OK }
+func (s *Store) Included(epoch int, size int) ([]api.Digest, api.Errno) {
+	if size < 1 || size > s.commits() || epoch < 0 || epoch >= size {
+		return nil, api.ErrEpoch
+	}
+	return history.Included(s.roots(size), epoch), api.OK
+}
 
 // Extended proves that one log is the beginning of another (P7).
-func (s *Store) Extended(old int, size int) ([]api.Digest, api.Errno) { return nil, api.OK }
+func (s *Store) Extended(old int, size int) ([]api.Digest, api.Errno) {
+	if size < 0 || size > s.commits() || old < 0 || old > size {
+		return nil, api.ErrEpoch
+	}
+	return history.Extended(s.roots(size), old), api.OK
+}
 
 // Check checks a key's proof (P6).
 func Check(root api.Digest, key []byte, proof []byte) (api.Answer, api.Errno) {
@@ -166,8 +190,12 @@ func CheckRange(root api.Digest, from []byte, to []byte, proof []byte) ([]api.En
 	return some, api.OK
 }
 
-// CheckIncluded checks a path (P8).
-func CheckIncluded(h api.Head, epoch int, root api.Digest, path []api.Digest) bool { return false }
+// CheckIncluded checks a path that a root is in the log (P8).
+func CheckIncluded(h api.Head, epoch int, root api.Digest, path []api.Digest) bool {
+	return history.IsIncluded(h, epoch, root, path)
+}
 
-// CheckExtended checks a path (P8).
-func CheckExtended(old api.Head, h api.Head, path []api.Digest) bool { return false }
+// CheckExtended checks a path that one log is the beginning of another (P8).
+func CheckExtended(old api.Head, h api.Head, path []api.Digest) bool {
+	return history.IsExtended(old, h, path)
+}

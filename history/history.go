@@ -1,4 +1,4 @@
-// Package history: the log of roots and its sum.
+// Package history: the log of roots, its sum, and its paths, made and checked.
 package history
 
 import (
